@@ -1,0 +1,1 @@
+"""Uniformity judged: tyres measured at twelve points round, graded, mounted, matched and weighted."""
