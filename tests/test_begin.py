@@ -1,7 +1,8 @@
 import unittest
 
-from tests.helper import (again, ask, begin, flat, grade, last, machine, match, mount, peak, plain,
-                          spike, step, turn, tyre, weight, wheel)
+from tests.helper import (GREATEST, again, alarm, ask, begin, flat, grade, graded, last, look, machine, match, mould,
+                          mount, of, peak, plain, points, spike, state, step, sums, turn, tyre, uneven, wave, weight,
+                          wheel, why)
 
 OTHERS = [
     grade(1, 2, 3),
@@ -15,17 +16,17 @@ OTHERS = [
     weight(0),
     peak(0),
     step(0),
-    [12, 0],
-    [13, 0],
-    [14, 0, 0],
-    [15, 0],
-    [16, 0],
-    [17],
-    [18, 0, 1],
-    [19, 0],
-    [20, 0],
-    [21],
-    [22],
+    wave(0),
+    graded(0),
+    why(0, 0),
+    of(0),
+    mould(0),
+    uneven(),
+    alarm(0, 1),
+    look(0),
+    points(0),
+    sums(),
+    state(),
 ]
 
 
@@ -54,6 +55,15 @@ class BeforeABegin(unittest.TestCase):
             weight(9),
             peak(9),
             step(9),
+            wave(9),
+            graded(9),
+            why(9, 9),
+            of(9),
+            mould(8),
+            alarm(8, 0),
+            alarm(0, GREATEST),
+            look(9),
+            points(9),
         ]
         for call in wrong:
             with self.subTest(call=call):
@@ -65,6 +75,7 @@ class BeforeABegin(unittest.TestCase):
                        tyre(0, 0, spike(5)), peak(0))
         self.assertEqual(answered[:4], [[-11], [-11], [-11], [0]])
         self.assertEqual(answered[4:], [[-2], [0], [0], [0], [0, 0], [5, 5, 0]])
+        self.assertEqual(last(*OTHERS, begin(), state()), [0, 0, 0, 0])
 
 
 class Begin(unittest.TestCase):
@@ -76,8 +87,10 @@ class Begin(unittest.TestCase):
         self.filled = [begin(), grade(5, 5, 5), plain(), tyre(0, 3, flat(7)), wheel(flat(0))]
 
     def test_a_second_one_leaves_no_tyre(self):
-        for call in [turn(0, 0), weight(0), peak(0), step(0)]:
+        for call in [turn(0, 0), weight(0), peak(0), step(0), wave(0), graded(0), look(0), points(0)]:
             self.assertEqual(last(*self.filled, begin(), call), [-2])
+        self.assertEqual(ask(*self.filled, begin(), mould(3), uneven(), alarm(3, 1), sums(), state())[6:],
+                         [[0, 0, 0, 0], [-6], [-12], [0, 0], [0, 0, 0, 0]])
         self.assertEqual(last(*self.filled, begin(), plain(), again(0, 0, flat(1))), [-2])
         self.assertEqual(last(*self.filled, begin(), wheel(flat(1)), mount(0, 0)), [-2])
 
@@ -91,6 +104,8 @@ class Begin(unittest.TestCase):
 
     def test_a_second_one_leaves_no_grade(self):
         self.assertEqual(last(*self.filled, begin(), plain(), tyre(0, 0, flat(7))), [0, 0])
+        self.assertEqual(last(*self.filled, begin(), of(0)), [-2])
+        self.assertEqual(last(*self.filled, begin(), plain(), tyre(0, 0, flat(7)), why(0, 0)), [-2])
 
     def test_numbers_begin_at_nought_again(self):
         self.assertEqual(ask(*self.filled, begin(), *self.filled[1:])[5:], [[0], [0], [0], [0, 1], [0]])

@@ -136,6 +136,14 @@ class Form(unittest.TestCase):
                     self.assertNotIn(name, vars(builtins), where)
                     self.assertRegex(name, r"^[A-Za-z][A-Za-z0-9_]*$", where)
 
+    def test_locals_hide_no_import_and_no_class(self):
+        for name, text, tree in sources():
+            taken = {found.name for node in tree.body if isinstance(node, ast.ImportFrom) for found in node.names}
+            taken |= {node.name for node in tree.body if isinstance(node, ast.ClassDef)}
+            for node in ast.walk(tree):
+                if isinstance(node, (ast.arg, ast.Name)):
+                    self.assertFalse(taken.intersection(bound_names(node)), f"{name}:{node.lineno}")
+
     def test_python_s_own_names(self):
         for where, node in each_node(ast.Name):
             if node.id in vars(builtins):

@@ -1,10 +1,6 @@
 import unittest
 
-from tests.helper import GREATEST, ask, begin, flat, grade, last, plain, spike, turn, tyre
-
-# Peak 60, greatest step 10. Across is 17320 + 20000 - 40000 - 86600 - 60000 = -149280,
-# upwards is 0, so the wave is 149280 // 6000 = 24.
-TENT = [0, 10, 20, 30, 40, 50, 60, 50, 40, 30, 20, 10]
+from tests.helper import GREATEST, TENT, ask, begin, flat, grade, last, plain, spike, turn, tyre
 
 
 def grade_of(points, *grades):

@@ -4,56 +4,21 @@ import itertools
 import math
 import random
 import unittest
+from fractions import Fraction
 
-from tests.helper import CIRCLE, again, ask, begin, grade, lowering, machine, match, mount, peak, plain, step, turn
-from tests.helper import tyre, weight, wheel
+from tests.helper import (CIRCLE, again, ask, begin, crest_of, evened, flat, grade, graded, look, lowering, machine,
+                          match, mould, mount, mounted_peak, peak, peak_of, plain, points, pushes_of, rows, spike,
+                          step, step_of, turn, tyre, uneven, wave, wave_of, weight, wheel, why)
 
 TIMES = 60
 
 
-def rows(seed, size):
-    """Rows of sorts: any, small ones, such with few different points."""
-    source = random.Random(seed)
-    made = []
-    for i in range(size):
-        most = (2000, 60, 3, 1)[i % 4]
-        made.append([source.randint(0, most) for point in range(12)])
-    return made
-
-
-def peak_of(row):
-    return max(row) - min(row)
-
-
-def step_of(row):
-    return max(abs(row[i] - row[(i + 1) % 12]) for i in range(12))
-
-
-def pushes_of(row):
-    across = sum(row[i] * CIRCLE[i] for i in range(12))
-    upwards = sum(row[i] * CIRCLE[(i + 9) % 12] for i in range(12))
-    return across, upwards
-
-
-def wave_of(row):
-    across, upwards = pushes_of(row)
-    return math.isqrt(across ** 2 + upwards ** 2) // 6000
-
-
-def mounted_peak(row, other, k):
-    return peak_of([row[(i + k) % 12] + other[i] for i in range(12)])
-
-
-def evened(row, other):
-    return min(mounted_peak(row, other, k) for k in range(12))
-
-
-def seen_wave(points, machines):
+def seen_wave(row, machines):
     """A wave as the calls tell it: the least most of a grade by which the tyre is of that grade."""
     low, high = 0, 2000
     while low < high:
         middle = (low + high) // 2
-        calls = [begin(), grade(2000, 2000, middle)] + machines + [tyre(0, 0, points)]
+        calls = [begin(), grade(2000, 2000, middle)] + machines + [tyre(0, 0, row)]
         if ask(*calls)[-1][1]:
             high = middle
         else:
@@ -75,18 +40,65 @@ class Rows(unittest.TestCase):
                 self.assertEqual(answered[3:5], answered[6:8])
 
     def test_all_lifted_alike_peak_step_and_wave_stay(self):
-        for row in rows(3, 12):
-            for machines in ([machine([150] * 12, [0] * 12)], [lowering(2000)]):
-                answered = ask(begin(), *machines, tyre(0, 0, row), peak(0), step(0))
-                self.assertEqual([answered[3][0], answered[4][0]], [peak_of(row), step_of(row)])
-                self.assertEqual(seen_wave(row, machines), wave_of(row))
+        for row in rows(3, TIMES):
+            as_it_is = ask(begin(), plain(), tyre(0, 0, row), peak(0), step(0), wave(0))[3:]
+            for machines in ([machine(flat(150), flat(0))], [lowering(1)], [lowering(2000)]):
+                answered = ask(begin(), *machines, tyre(0, 0, row), peak(0), step(0), wave(0))[3:]
+                self.assertEqual(answered[0][0], as_it_is[0][0])
+                self.assertEqual(answered[1:], as_it_is[1:])
 
     def test_half_round_the_wave_is_turned_about(self):
         for row in rows(4, TIMES):
-            answered = ask(begin(), plain(), tyre(0, 0, row), weight(0), turn(0, 6), weight(0))
-            before, after = answered[3], answered[5]
-            self.assertEqual(before[0], after[0])
-            self.assertEqual(before[2], after[2])
+            answered = ask(begin(), lowering(40), tyre(0, 0, row), wave(0), weight(0), turn(0, 6), wave(0), weight(0))
+            before, after = answered[3], answered[6]
+            self.assertEqual(after[0], before[0])
+            self.assertEqual(after[2:], [-before[2], -before[3]])
+            self.assertEqual(answered[7][0], answered[4][0])
+            self.assertEqual(answered[7][2], answered[4][2])
+
+    def test_half_round_the_crest_is_opposite(self):
+        for row in rows(15, TIMES):
+            across, upwards = pushes_of(row)
+            heights = [across * CIRCLE[i] + upwards * CIRCLE[(i + 9) % 12] for i in range(12)]
+            if heights.count(max(heights)) == 1:
+                answered = ask(begin(), plain(), tyre(0, 0, row), wave(0), turn(0, 6), wave(0))
+                self.assertEqual(answered[5][1], (answered[3][1] + 6) % 12)
+
+    def test_the_wave_and_its_crest(self):
+        for row in rows(16, 4 * TIMES):
+            across, upwards = pushes_of(row)
+            for machines in ([plain()], [lowering(2000)]):
+                answered = ask(begin(), *machines, tyre(0, 0, row), wave(0))
+                self.assertEqual(answered[-1], [wave_of(row), crest_of(row), across, upwards])
+
+    def test_on_whatever_machine_the_master_is_as_it_truly_is(self):
+        for true, measured in zip(rows(17, TIMES), reversed(rows(18, TIMES))):
+            answered = ask(begin(), plain(), machine(true, measured), tyre(1, 0, measured), points(0), tyre(0, 0, true),
+                           again(1, 1, measured), points(1))
+            self.assertEqual(answered[4], [12] + true)
+            self.assertEqual(answered[7], [12] + true)
+
+
+class Moulds(unittest.TestCase):
+    def test_no_mould_is_more_uneven_on_the_mean(self):
+        source = random.Random(19)
+        for time in range(TIMES):
+            size = source.randint(1, 40)
+            # Few peaks and few moulds, so that means are often alike.
+            peaks = [source.randint(0, (3, 40, 2000)[time % 3]) for i in range(size)]
+            moulds = [source.randint(0, (7, 3, 7)[time % 3]) for i in range(size)]
+            means = []
+            for number in range(8):
+                own = [peaks[i] for i in range(size) if moulds[i] == number]
+                if own:
+                    means.append((Fraction(sum(own), len(own)), -number, sum(own), len(own)))
+            mean, number, together, many = max(means)
+            calls = [tyre(0, moulds[i], spike(peaks[i], i % 12)) for i in range(size)]
+            answered = ask(begin(), lowering(1000), *calls, uneven(), *[mould(m) for m in range(8)])
+            self.assertEqual(answered[-9], [-number, together, many])
+            for m in range(8):
+                own = [peaks[i] for i in range(size) if moulds[i] == m]
+                self.assertEqual(answered[m - 8], [len(own), sum(own), max(own, default=0), len(own)])
 
 
 class Grades(unittest.TestCase):
@@ -98,8 +110,13 @@ class Grades(unittest.TestCase):
             for number in range(4):
                 mosts.append([min(2000, max(0, most + source.randint(-1, 3))) for most in near])
             keeping = [number for number in range(4) if all(near[i] <= mosts[number][i] for i in range(3))]
-            answered = ask(begin(), *[grade(*most) for most in mosts], plain(), tyre(0, 0, row))
-            self.assertEqual(answered[-1], [0, keeping[0] + 1 if keeping else 0])
+            answered = ask(begin(), *[grade(*most) for most in mosts], plain(), tyre(0, 0, row), look(0), graded(0),
+                           *[why(0, number) for number in range(4)])
+            and_one = keeping[0] + 1 if keeping else 0
+            self.assertEqual(answered[6:9], [[0, and_one], [0, and_one], [and_one - 1 if keeping else -33]])
+            for number in range(4):
+                above = [i + 1 for i in range(3) if near[i] > mosts[number][i]]
+                self.assertEqual(answered[9 + number], [above[0] if above else 0])
 
     def test_the_wave(self):
         for row in rows(7, 24):
@@ -115,8 +132,8 @@ class Again(unittest.TestCase):
             for i in range(12):
                 half.append(math.floor((old[i] - 900 + new[i] + true[i] - measured[i]) / 2))
             answered = ask(begin(), lowering(900), machine(true, measured), tyre(0, 0, old), again(0, 1, new), peak(0),
-                           step(0))
-            self.assertEqual(answered[5:], [[peak_of(half), max(half), min(half)], [step_of(half)]])
+                           step(0), points(0))
+            self.assertEqual(answered[5:], [[peak_of(half), max(half), min(half)], [step_of(half)], [12] + half])
 
 
 class Fitting(unittest.TestCase):

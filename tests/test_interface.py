@@ -3,8 +3,9 @@ import os
 import time
 import unittest
 
-from tests.helper import (GREATEST, again, ask, begin, flat, grade, lowering, machine, match, mount, peak, plain,
-                          spike, step, turn, tyre, weight, wheel)
+from tests.helper import (GREATEST, again, alarm, ask, begin, flat, grade, graded, look, lowering, machine, match,
+                          mould, mount, of, peak, plain, points, spike, state, step, sums, turn, tyre, uneven, wave,
+                          weight, wheel, why)
 from tyresjudged.uniformity import answers
 
 README = os.path.join(os.path.dirname(os.path.dirname(os.path.abspath(__file__))), "README.md")
@@ -15,7 +16,8 @@ WORKS = ([begin(), grade(40, 30, 3), grade(90, 90, 20), plain(), lowering(60)]
          + [tyre(i % 2, i, UNLIKE[i]) for i in range(4)] + [wheel(UNLIKE[i]) for i in range(4, 8)])
 
 EACH = [grade(50, 50, 50), machine(flat(7), flat(3)), tyre(1, 5, UNLIKE[6]), again(2, 1, UNLIKE[7]), turn(3, 4),
-        wheel(spike(8)), mount(1, 2), match([0, 1, 2, 3], [3, 2, 1, 0]), weight(2), peak(0), step(0)]
+        wheel(spike(8)), mount(1, 2), match([0, 1, 2, 3], [3, 2, 1, 0]), weight(2), peak(0), step(0), wave(1), graded(0),
+        why(0, 1), of(1), mould(2), uneven(), alarm(3, 1), look(3), points(2), sums(), state()]
 
 REFUSED = [
     grade(2001, 0, 0),
@@ -37,7 +39,24 @@ REFUSED = [
     weight(4),
     peak(4),
     step(4),
+    wave(4),
+    graded(4),
+    graded(2),
+    why(4, 0),
+    why(0, 2),
+    of(2),
+    mould(8),
+    alarm(8, 1),
+    alarm(0, 0),
+    alarm(0, 2),
+    look(4),
+    points(4),
 ]
+
+# All that there is to be seen of the works.
+SEEN = ([sums(), state(), uneven()] + [points(t) for t in range(6)] + [look(t) for t in range(6)]
+        + [mould(m) for m in range(8)] + [of(g) for g in range(4)] + [alarm(m, 1) for m in range(8)]
+        + [why(t, g) for t in range(6) for g in range(4)])
 
 
 def joined(*calls):
@@ -70,9 +89,10 @@ class TheList(unittest.TestCase):
         calls = [begin(), plain(), grade(great, great, great), tyre(great, great, flat(great)),
                  tyre(0, great, flat(great)), again(great, great, flat(great)), turn(great, great), wheel(flat(great)),
                  mount(great, great), match([great], [great]), weight(great), peak(great), step(great),
-                 tyre(0, 0, flat(0))]
+                 wave(great), graded(great), why(great, great), of(great), mould(great), alarm(great, great),
+                 alarm(0, great), look(great), points(great), tyre(0, 0, flat(0)), turn(0, great), why(0, great)]
         self.assertEqual(ask(*calls), [[0], [0], [-22], [-2], [-22], [-2], [-2], [-22], [-2], [-2], [-2], [-2], [-2],
-                                       [0, 0]])
+                                       [-2], [-2], [-2], [-2], [-22], [-22], [-12], [-2], [-2], [0, 0], [-22], [-2]])
 
     def test_whole_numbers_only(self):
         answered = answers(joined(*WORKS, *EACH, *REFUSED))
@@ -115,7 +135,7 @@ class WhatIsRefused(unittest.TestCase):
             self.assertLess(answered[0], 0, call)
 
     def test_it_changes_nothing(self):
-        told = EACH + [mount(t, w) for t in range(5) for w in range(5)] + [weight(t) for t in range(5)]
+        told = SEEN + EACH + SEEN + [mount(t, w) for t in range(5) for w in range(5)] + [weight(t) for t in range(5)]
         as_it_was = ask(*WORKS, *told)[len(WORKS):]
         for call in REFUSED:
             self.assertEqual(ask(*WORKS, call, *told)[len(WORKS) + 1:], as_it_was, call)
@@ -125,6 +145,7 @@ class WhatIsRefused(unittest.TestCase):
                 + [tyre(0, 0, UNLIKE[i % 8]) for i in range(60)] + [wheel(UNLIKE[i % 8]) for i in range(10)])
         told = [mount(t, w) for t in (0, 59, 60) for w in (0, 9, 10)] + [turn(0, 0), again(0, 2, flat(0)),
                                                                         again(0, 3, flat(0)), peak(0)]
+        told = told + SEEN
         as_it_was = ask(*full, *told)[len(full):]
         for call in (grade(2000, 2000, 2000), machine(flat(9), flat(0)), tyre(0, 0, flat(9)), wheel(flat(9))):
             answered = ask(*full, call, *told)[len(full):]
@@ -161,6 +182,26 @@ class FourHundredCalls(unittest.TestCase):
     def test_the_longest_lists(self):
         # 399 calls with 34 numbers each.
         self.assertEqual(self.assert_soon([begin()] + [tyre(0, 0, [GREATEST] * 30)] * 399), [1, 0] + [1, -2] * 399)
+
+    def test_all_calls_with_sixty_tyres(self):
+        full = ([begin()] + [grade(i, 20 * i, 9 * i) for i in range(4)] + [plain(), lowering(60), lowering(2000)]
+                + [tyre(i % 3, i % 8, UNLIKE[i % 8]) for i in range(60)] + [wheel(UNLIKE[i % 8]) for i in range(10)])
+        calls = full + (EACH * 20)[:399 - len(full)] + [state()]
+        self.assertEqual(len(calls), 400)
+        self.assertEqual(sorted({call[0] for call in calls}), list(range(23)))
+        self.assertEqual(self.assert_soon(calls)[-5:], [4, 60, 4, 3, 10])
+
+    def test_all_calls_with_a_begin_among_them(self):
+        calls = (WORKS + EACH + SEEN + REFUSED + [begin()]) * 4
+        self.assert_soon(calls[:400])
+
+    def test_what_goes_through_all_tyres(self):
+        full = ([begin()] + [grade(0, 0, 0)] * 4 + [machine([2000, 0] * 6, [0, 2000] * 6)]
+                + [tyre(0, 5, [2000, 0, 0] * 4) for i in range(60)])
+        for call, answered in [(sums(), [6, 0, 60, 0, 0, 0, 0]), (of(3), [1, 0]), (alarm(5, 60), [1, 1]),
+                               (mould(5), [4, 60, 360000, 6000, 60]), (uneven(), [3, 5, 360000, 60])]:
+            calls = full + [call] * (400 - len(full))
+            self.assertEqual(self.assert_soon(calls)[-len(answered):], answered)
 
     def test_again_and_turn(self):
         calls = WORKS + [again(i % 4, i % 2, UNLIKE[i % 8]) if i % 3 else turn(i % 4, i % 12)

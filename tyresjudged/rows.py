@@ -71,6 +71,14 @@ def wave(row):
     return whole_root(wave_squared(row)) // WAVE_SHARE
 
 
+def crest(row):
+    """The point where the wave is most; of alike ones the first."""
+    row_across = across(row)
+    row_upwards = upwards(row)
+    heights = [row_across * circle_across(i) + row_upwards * circle_upwards(i) for i in range(POINTS)]
+    return heights.index(max(heights))
+
+
 def best_turn(tyre, wheel):
     """The turn by which tyre and wheel together have the least peak, and that peak."""
     best = (0, peak(together(tyre, wheel)))
